@@ -1,11 +1,13 @@
 """The calls on one object, one behind another."""
 
+from stackedsheets.askcalls import call_height, call_loose, call_sheet, call_stack, call_state
+from stackedsheets.presscalls import call_press, call_swap, call_take
 from stackedsheets.reader import Reader
 from stackedsheets.refusals import NOT_STARTED
 from stackedsheets.sheetcalls import call_fit, call_minus, call_over, call_plus
 from stackedsheets.sheetcalls import call_start, call_trim, call_under
 from stackedsheets.shop import Shop
-from stackedsheets.stackcalls import call_could, call_need, call_order
+from stackedsheets.stackcalls import call_check, call_could, call_most, call_need, call_order
 
 START = 0
 
@@ -46,4 +48,14 @@ def handlers_by_number():
         7: call_order,
         8: call_could,
         9: call_need,
+        10: call_press,
+        11: call_take,
+        12: call_swap,
+        13: call_most,
+        14: call_loose,
+        15: call_stack,
+        16: call_height,
+        17: call_sheet,
+        18: call_check,
+        19: call_state,
     }

@@ -4,7 +4,7 @@ Each takes the shop and a list of what the call is given, and gives the list of
 numbers that are answered.
 """
 
-from stackedsheets.refusals import FULL, IN_A_STACK, NO_SUCH, WRONG_SIGN, WRONG_VALUE
+from stackedsheets.refusals import FULL, NO_SUCH, STACK_FORBIDS, WRONG_SIGN, WRONG_VALUE
 from stackedsheets.widths import is_width
 
 MOST_REACH = 100
@@ -44,9 +44,9 @@ def call_trim(shop, given):
     wide = given[1]
     if not shop.has_sheet(i):
         return [NO_SUCH]
+    if not shop.is_loose(i):
+        return [STACK_FORBIDS]
     sheet = shop.sheets[i]
-    if sheet.stack is not None:
-        return [IN_A_STACK]
     if wide == 0 or wide >= sheet.wide:
         return [WRONG_VALUE]
     was = sheet.wide

@@ -1,15 +1,16 @@
-"""The calls that ask what can be stacked: order, could, need.
+"""The calls that ask what can be stacked: order, could, need, check, most.
 
 Each takes the shop and a list of what the call is given, and gives the list of
 numbers that are answered.
 """
 
 from stackedsheets.refusals import NO_WAY, WRONG_VALUE
-from stackedsheets.widths import can_be_stacked, is_width, least_more
+from stackedsheets.shop import is_size_of_stack
+from stackedsheets.widths import can_be_stacked, is_width, least_more, most_stacks
 
-LEAST_IN_STACK = 3
 MOST_PLUS_WIDTHS = 7
 MOST_MINUS_WIDTHS = 8
+MOST_PLUS_IN_EACH = 3
 
 
 def call_order(shop, given):
@@ -25,7 +26,7 @@ def call_order(shop, given):
 
 def first_order(shop, listed):
     """Give the first order of the listed sheets that is a stack, or None."""
-    if len(listed) < LEAST_IN_STACK or len(listed) % 2 == 0:
+    if not is_size_of_stack(len(listed)):
         return None
     begun = [[i] for i in listed if shop.sheets[i].minus]
     for place in range(1, len(listed)):
@@ -71,3 +72,19 @@ def are_widths(plus_widths, minus_widths):
     if len(plus_widths) > MOST_PLUS_WIDTHS or len(minus_widths) > MOST_MINUS_WIDTHS:
         return False
     return all([is_width(wide) for wide in plus_widths + minus_widths])
+
+
+def call_check(shop, given):
+    """Answer whether the listed sheets, in their order, are a stack."""
+    listed = given[0]
+    if not shop.are_sheets(listed):
+        return [WRONG_VALUE]
+    return [int(shop.is_stack(listed))]
+
+
+def call_most(shop, given):
+    """Answer how many stacks of k plus sheets each can be laid at once of those that lie loose."""
+    k = given[0]
+    if k < 1 or k > MOST_PLUS_IN_EACH:
+        return [WRONG_VALUE]
+    return [most_stacks(shop.loose_widths(False), shop.loose_widths(True), k, shop.reach)]

@@ -40,3 +40,37 @@ def least_more(plus_widths, minus_widths, reach):
         if can_be_stacked(plus_widths, minus_widths + [wide], reach):
             return wide
     return None
+
+
+def most_stacks(plus_widths, minus_widths, k, reach):
+    """Tell how many stacks of k plus sheets and k and one minus sheets each can be laid at once."""
+    count = 0
+    while can_be_laid(plus_widths, minus_widths, k, count + 1, reach):
+        count += 1
+    return count
+
+
+def can_be_laid(plus_widths, minus_widths, k, count, reach):
+    """Tell whether so many stacks of k plus sheets each can be laid at once."""
+    if len(plus_widths) < count * k or len(minus_widths) < count * (k + 1):
+        return False
+    # Where a sheet can lie, a narrower plus one or a wider minus one can lie too.
+    narrowest = sorted(plus_widths)[:count * k]
+    widest = sorted(minus_widths, reverse=True)
+    for least, minus_width in zip(least_minus_widths(narrowest, k, reach), widest):
+        if minus_width < least:
+            return False
+    return True
+
+
+def least_minus_widths(plus_widths, k, reach):
+    """Give how wide the minus sheets must be at least, falling, for stacks of k of these plus ones each."""
+    # Beside the widest plus sheets of one stack lies one minus sheet more than
+    # they are. So as few stacks as can be should have the widest: one has the k
+    # widest, one the next k, and in each the widest needs two minus sheets.
+    least = []
+    for place, plus_width in enumerate(sorted(plus_widths, reverse=True)):
+        if place % k == 0:
+            least.append(least_over(plus_width, reach))
+        least.append(least_over(plus_width, reach))
+    return least

@@ -47,6 +47,46 @@ def need(p, m):
     return [9, len(p), *p, len(m), *m]
 
 
+def press(*sheets):
+    return [10, len(sheets), *sheets]
+
+
+def take(s):
+    return [11, s]
+
+
+def swap(i, j):
+    return [12, i, j]
+
+
+def most(k):
+    return [13, k]
+
+
+def loose():
+    return [14]
+
+
+def stack(s):
+    return [15, s]
+
+
+def height(s):
+    return [16, s]
+
+
+def sheet(i):
+    return [17, i]
+
+
+def check(*sheets):
+    return [18, len(sheets), *sheets]
+
+
+def state():
+    return [19]
+
+
 def joined(calls):
     return [number for call in calls for number in call]
 

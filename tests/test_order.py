@@ -3,7 +3,7 @@
 from itertools import permutations, product
 
 from stackedsheets.factory import answers
-from tests.lines import HUGE, LineTest, joined, minus, order, plus, start, trim
+from tests.lines import HUGE, LineTest, joined, minus, order, plus, press, stack, start, trim
 
 
 def laid(signs_and_widths):
@@ -112,6 +112,13 @@ class OrderTest(LineTest):
             for reach in (0, 1):
                 self.check_against_all_orders(list(zip('-+-+-+-', widths)), lists, reach)
                 self.check_against_all_orders(list(zip('--+-++-', widths)), lists, reach)
+
+    def test_sheets_that_lie_in_a_stack(self):
+        self.check(
+            (start(0), 0), (minus(9), 0), (plus(9), 1), (minus(9), 2), (plus(8), 3), (minus(8), 4),
+            (press(2, 1, 0), 0), (order(0, 1, 2), [3, 0, 1, 2]), (order(4, 3, 1, 2, 0), [5, 4, 3, 2, 1, 0]),
+            (order(0, 1, 4), -33), (stack(0), [3, 2, 1, 0]),
+        )
 
     def test_asking_changes_nothing(self):
         calls = joined([start(0), *laid([('-', 9), ('+', 9), ('-', 9)]), order(2, 1, 0), order(0, 1, 2), order(2, 1, 0)])

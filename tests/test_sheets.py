@@ -1,8 +1,6 @@
 """Promise 1: start, plus, minus, trim, fit, over, under."""
 
-from stackedsheets.shop import Shop
-from stackedsheets.sheetcalls import call_trim
-from tests.lines import HUGE, LineTest, fit, minus, over, plus, start, trim, under
+from tests.lines import HUGE, LineTest, fit, minus, over, plus, press, sheet, start, swap, take, trim, under
 
 
 class StartTest(LineTest):
@@ -22,6 +20,13 @@ class StartTest(LineTest):
     def test_second_start_makes_room_again(self):
         full = [(plus(5), i) for i in range(14)]
         self.check((start(0), 0), *full, (plus(5), -28), (start(0), 0), *full, (minus(5), -28))
+
+    def test_second_start_leaves_no_stack(self):
+        self.check(
+            (start(10), 0), (minus(50), 0), (plus(30), 1), (minus(50), 2), (press(0, 1, 2), 0), (start(9), 0),
+            (take(0), -2), (minus(50), 0), (trim(0, 49), 50), (plus(30), 1), (minus(50), 2), (sheet(2), [50, 1, 0]),
+            (press(2, 1, 0), 0),
+        )
 
     def test_refused_second_start_changes_nothing(self):
         self.check(
@@ -80,14 +85,25 @@ class TrimTest(LineTest):
         )
 
     def test_sheet_in_a_stack_goes_before_wrong_width(self):
-        shop = Shop()
-        shop.begin(0)
-        shop.lay_sheet(True, 50)
-        shop.sheets[0].stack = 0
-        for wide in (0, 1, 49, 50):
-            self.assertEqual(call_trim(shop, [0, wide]), [-16])
-        self.assertEqual(call_trim(shop, [1, 0]), [-2])
-        self.assertEqual(shop.sheets[0].wide, 50)
+        laid = [(minus(50), 0), (plus(40), 1), (minus(50), 2), (minus(60), 3)]
+        refused = [(trim(i, wide), -16) for i in (0, 1, 2) for wide in (0, 1, 39, 45, 50, 51, HUGE)]
+        self.check(
+            (start(0), 0), *laid, (press(0, 1, 2), 0), *refused, (trim(4, 0), -2), (trim(3, 0), -22),
+            (sheet(0), [50, 1, 1]), (sheet(1), [40, 0, 1]), (sheet(2), [50, 1, 1]),
+        )
+
+    def test_once_it_lies_loose_again(self):
+        self.check(
+            (start(0), 0), (minus(50), 0), (plus(40), 1), (minus(50), 2), (minus(60), 3), (press(0, 1, 2), 0),
+            (trim(3, 45), 60), (swap(0, 3), 0), (trim(3, 44), -16), (trim(0, 10), 50),
+            (take(0), 3), (trim(1, 39), 40), (trim(2, 1), 50), (trim(3, 44), 45),
+        )
+
+    def test_over_and_under_and_fit_look_at_sheets_in_stacks_too(self):
+        self.check(
+            (start(0), 0), (minus(50), 0), (plus(40), 1), (minus(50), 2), (plus(45), 3), (press(0, 1, 2), 0),
+            (over(0), [2, 1, 3]), (under(1), [2, 0, 2]), (under(3), [2, 0, 2]), (fit(0, 3), 1), (fit(1, 2), 1),
+        )
 
 
 class FitTest(LineTest):
